@@ -1,0 +1,1 @@
+"""What anybody can have seen: which histories of shared things can have been so."""
