@@ -1,6 +1,6 @@
 """Rows that explain operations: the rules for what must come first, and the search for the first such row."""
 
-from seenhistory.things import done, held_at_first
+from seenhistory.things import all_held_at_first, do_operation
 
 
 def first_in_clients_order(one, other):
@@ -8,20 +8,25 @@ def first_in_clients_order(one, other):
     return one.client == other.client and one.began < other.began
 
 
-def first_in_times_order(one, other):
-    """Whether one must come before other in time's order."""
+def first_but_for(one, other, events):
+    """Whether one must come before other in time's order, but for so many events."""
     if first_in_clients_order(one, other):
         return True
-    return one.ended is not None and one.ended < other.began
+    return one.ended is not None and one.ended + events < other.began
 
 
-def first_row(kinds, given, rule):
+def first_in_times_order(one, other):
+    """Whether one must come before other in time's order."""
+    return first_but_for(one, other, 0)
+
+
+def first_row(kinds, given, rule, counted):
     """Of all rows that explain the given operations by the rule the first one, as numbers; None without any.
 
-    The given operations stand in the order of their numbers.
+    The given operations stand in the order of their numbers; counted are the clients whose answers count.
     """
-    search = Search(kinds, given, rule)
-    return search.first_from([], 0, tuple([held_at_first(kind) for kind in kinds]))
+    search = Search(kinds, given, rule, counted)
+    return search.first_from([], 0, all_held_at_first(kinds))
 
 
 def mark(operations):
@@ -32,14 +37,11 @@ def mark(operations):
     return marked
 
 
-def with_held(held, thing, value):
-    return held[:thing] + (value,) + held[thing + 1:]
-
-
 class Search:
-    def __init__(self, kinds, given, rule):
+    def __init__(self, kinds, given, rule, counted):
         self.kinds = kinds
         self.given = given
+        self.counted = counted
         self.ended = mark([operation for operation in given if operation.ended is not None])
         self.needed = {}
         for operation in given:
@@ -64,12 +66,15 @@ class Search:
 
     def may_follow(self, operation, placed):
         needed = self.needed[operation.number]
-        return placed & mark([operation]) == 0 and placed & needed == needed
+        return placed & (1 << operation.number) == 0 and placed & needed == needed
 
     def first_with(self, operation, row, placed, held):
         """The first row that explains and begins with this one and the operation behind it, or None."""
-        thing = operation.thing
-        step = done(self.kinds[thing], held[thing], operation.action, operation.a, operation.b)
-        if operation.ended is not None and step[0] != operation.answer:
+        step = do_operation(self.kinds, held, operation)
+        if self.must_answer(operation) and step[0] != operation.answer:
             return None
-        return self.first_from(row + [operation.number], placed | mark([operation]), with_held(held, thing, step[1]))
+        return self.first_from(row + [operation.number], placed | (1 << operation.number), step[1])
+
+    def must_answer(self, operation):
+        """Whether the operation may stand only where it answers what it did."""
+        return operation.ended is not None and operation.client in self.counted

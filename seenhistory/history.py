@@ -3,12 +3,12 @@
 from seenhistory.refusals import FULL, NO_SUCH, NOT_NOW
 from seenhistory.things import is_action
 
-CLIENTS = 4
+CLIENTS = (0, 1, 2, 3)
 MOST_OPERATIONS = 9
 
 
 def is_client(client):
-    return 0 <= client < CLIENTS
+    return client in CLIENTS
 
 
 class Operation:
@@ -34,6 +34,9 @@ class History:
 
     def has_thing(self, thing):
         return 0 <= thing < len(self.kinds)
+
+    def has_operation(self, number):
+        return 0 <= number < len(self.operations)
 
     def pending(self, client):
         """The client's operation that has not ended, or None."""
@@ -66,6 +69,17 @@ class History:
         operation.answer = answer
         self.events += 1
         return operation.number
+
+    def on_thing(self, thing):
+        """The operations on this thing."""
+        return [operation for operation in self.operations if operation.thing == thing]
+
+    def without(self, number):
+        """Another history, from which this operation is left out; the others keep their numbers and their events."""
+        smaller = History(self.kinds)
+        smaller.events = self.events
+        smaller.operations = [operation for operation in self.operations if operation.number != number]
+        return smaller
 
     def first_events(self, many):
         """Another history, of this one's first events alone."""

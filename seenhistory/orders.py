@@ -1,8 +1,10 @@
 """A list of calls, read and answered."""
 
 from seenhistory.history import History
-from seenhistory.questions import linear, linear_for_thing, order, serial, shortest
+from seenhistory.questions import (blame, causal, late, linear, linear_for_thing, order, own, serial, shortest,
+                                    show)
 from seenhistory.refusals import NO_HISTORY, NO_SUCH
+from seenhistory.rows import held, play
 from seenhistory.things import is_kind
 
 BEGIN = 0
@@ -13,6 +15,11 @@ THING = 4
 ORDER = 5
 SHORTEST = 6
 SERIAL = 7
+OWN = 8
+CAUSAL = 9
+LATE = 10
+HELD = 12
+# blame (11), play (13) and show (14) need no name: each is what is left when those with as much handed over are told.
 
 # How many whole numbers each call has, by the call's number.
 NUMBERS = (0, 5, 2, 0, 1, 0, 0, 0, 1, 0, 1, 0, 0, 0, 1)
@@ -20,10 +27,6 @@ NUMBERS = (0, 5, 2, 0, 1, 0, 0, 0, 1, 0, 1, 0, 0, 0, 1)
 WITH_LIST = (0, 12, 13)
 
 MOST_THINGS = 3
-
-
-class NotBuilt(Exception):
-    """A call that the document names and the program can not answer yet."""
 
 
 def answers(calls):
@@ -69,14 +72,41 @@ def answer_of(history, call):
         return [history.call(call[1], call[2], call[3], call[4], call[5])]
     if name == END:
         return [history.end(call[1], call[2])]
+    if name in WITH_LIST:
+        return answer_about_row(history, name, call[2:])
+    if NUMBERS[name] == 1:
+        return answer_about_one(history, name, call[1])
+    return answer_about_all(history, name)
+
+
+def answer_about_row(history, name, row):
+    """What held or play answers."""
+    if name == HELD:
+        return held(history, row)
+    return play(history, row)
+
+
+def answer_about_one(history, name, number):
+    """What a call answers that has one number: a thing's, a client's or an operation's."""
+    if name == THING:
+        return [linear_for_thing(history, number)]
+    if name == OWN:
+        return [own(history, number)]
+    if name == LATE:
+        return [late(history, number)]
+    return show(history, number)
+
+
+def answer_about_all(history, name):
+    """What a call answers to which nothing is handed over."""
     if name == LINEAR:
         return [linear(history)]
-    if name == THING:
-        return [linear_for_thing(history, call[1])]
     if name == ORDER:
         return order(history)
     if name == SHORTEST:
         return [shortest(history)]
     if name == SERIAL:
         return [serial(history)]
-    raise NotBuilt(f"call {name}")
+    if name == CAUSAL:
+        return [causal(history)]
+    return blame(history)

@@ -28,6 +28,18 @@ def held_at_first(kind):
     return 0
 
 
+def all_held_at_first(kinds):
+    """What each of the things holds at first: a tuple."""
+    return tuple([held_at_first(kind) for kind in kinds])
+
+
+def do_operation(kinds, held, operation):
+    """What the operation answers where the things hold this, and what they hold afterwards: a pair."""
+    thing = operation.thing
+    step = done(kinds[thing], held[thing], operation.action, operation.a, operation.b)
+    return (step[0], held[:thing] + (step[1],) + held[thing + 1:])
+
+
 def done(kind, held, action, a, b):
     """What a thing of this kind answers to the action, and what it holds afterwards: a pair."""
     if kind == CELL:

@@ -8,6 +8,8 @@ LINEAR = [3]
 ORDER = [5]
 SHORTEST = [6]
 SERIAL = [7]
+CAUSAL = [9]
+BLAME = [11]
 
 
 def begin(*kinds):
@@ -24,6 +26,26 @@ def end(client, answer):
 
 def thing(number):
     return [4, number]
+
+
+def own(client):
+    return [8, client]
+
+
+def late(number):
+    return [10, number]
+
+
+def held(*row):
+    return [12, len(row)] + list(row)
+
+
+def play(*row):
+    return [13, len(row)] + list(row)
+
+
+def show(number):
+    return [14, number]
 
 
 def split(numbers):

@@ -2,8 +2,8 @@
 
 import unittest
 
-from tests.helper import (CELL, COUNT, LINEAR, LOCK, ORDER, PILE, ROW, SERIAL, SET, SHORTEST,
-                          begin, call, end, last, said, thing)
+from tests.helper import (BLAME, CAUSAL, CELL, COUNT, LINEAR, LOCK, ORDER, PILE, ROW, SERIAL, SET, SHORTEST,
+                          begin, call, end, held, last, late, own, play, said, show, thing)
 
 
 class Begin(unittest.TestCase):
@@ -159,20 +159,17 @@ class End(unittest.TestCase):
 
 class WithoutHistory(unittest.TestCase):
     def test_all_but_begin_are_refused(self):
-        refused = [call(0, 0, 0), end(0, 0), LINEAR, thing(0), ORDER, SHORTEST, SERIAL]
+        refused = [call(0, 0, 0), end(0, 0), LINEAR, thing(0), ORDER, SHORTEST, SERIAL, own(0), CAUSAL, late(0), BLAME,
+                   held(), held(0), play(), play(0), show(0)]
         for one in refused:
             self.assertEqual(said(one), [[-9]])
-        self.assertEqual(said(*refused), [[-9]] * 7)
+            self.assertEqual(said(begin(6), one, begin(CELL)), [[-1], [-9], [0]])
+        self.assertEqual(said(*refused), [[-9]] * 16)
 
     def test_ahead_of_all_other_refusals(self):
-        self.assertEqual(said(call(9, 9, 9), end(9, 0), thing(9)), [[-9], [-9], [-9]])
-
-    def test_calls_of_every_form_are_read_past(self):
-        later = [[8, 9], [9], [10, 9], [11], [12, 2, 20, 20], [12, 0], [13, 3, 20, 20, 20], [13, 0], [14, 20]]
-        for one in later:
-            self.assertEqual(said(one), [[-9]])
-            self.assertEqual(said(one, begin(CELL)), [[-9], [0]])
-        self.assertEqual(said(*later, begin(CELL)), [[-9]] * 9 + [[0]])
+        refused = [call(9, 9, 9), end(9, 0), thing(9), own(9), late(9), held(20, 20), held(*[20] * 12), play(20, 20),
+                   play(*[20] * 12), show(20)]
+        self.assertEqual(said(*refused), [[-9]] * 10)
 
     def test_a_history_from_begin_on(self):
         self.assertEqual(said(LINEAR, begin(), LINEAR, begin(CELL), LINEAR), [[-9], [-1], [-9], [0], [1]])

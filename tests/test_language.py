@@ -30,6 +30,14 @@ type typing typing_extensions enum Enum IntEnum StrEnum Flag IntFlag Generic Pro
 TypedDict TYPE_CHECKING abstractmethod
 """.split()
 
+UNUSED = """
+register mro elements open input version_info with_traceback add_note attrgetter breakpoint builtins compile copyright
+credits delattr dir eval exec exit gc getattr globals hasattr help id importlib license locals methodcaller os quit
+setattr super type vars sys
+""".split()
+
+WALKED = ("list", "tuple", "dict", "sorted", "sum", "any", "all", "enumerate", "zip", "min", "max")
+
 TAKEN = [name for one in ("", 0, [], (), {}, set(), b"") for name in dir(one)]
 
 
@@ -42,6 +50,10 @@ def bound_names(tree):
     names += [node.arg for node in nodes_of(tree, ast.arg)]
     names += [node.id for node in nodes_of(tree, ast.Name) if isinstance(node.ctx, ast.Store)]
     return names + imported_names(tree)
+
+
+def called_name(node):
+    return node.func.id if isinstance(node.func, ast.Name) else None
 
 
 def imported_names(tree):
@@ -131,6 +143,43 @@ class Language(unittest.TestCase):
                 if node not in called:
                     self.assertNotIn(node.attr, own, (stem, node.lineno))
                     self.assertNotIn(node.attr, TAKEN, (stem, node.lineno))
+
+    def test_names_that_are_not_used(self):
+        for stem, tree in self.trees.items():
+            for node in nodes_of(tree, ast.Name):
+                self.assertNotIn(node.id, UNUSED, (stem, node.lineno))
+            for node in nodes_of(tree, ast.Attribute):
+                self.assertNotIn(node.attr, UNUSED, (stem, node.lineno))
+
+    def test_is_beside_none_alone(self):
+        for stem, tree in self.trees.items():
+            for node in nodes_of(tree, ast.Compare):
+                for sign, right in zip(node.ops, node.comparators):
+                    if isinstance(sign, (ast.Is, ast.IsNot)):
+                        self.assertIsInstance(right, ast.Constant, (stem, node.lineno))
+                        self.assertIn(right.value, (None, True, False), (stem, node.lineno))
+
+    def test_parameters_are_plain(self):
+        for stem, tree in self.trees.items():
+            for node in nodes_of(tree, ast.arguments):
+                self.assertEqual([node.vararg, node.kwarg, node.kwonlyargs, node.posonlyargs], [None, None, [], []])
+
+    def test_sets_and_ranges_are_used_on_the_spot(self):
+        fit = {"set": ("len", "sorted"), "range": WALKED, "enumerate": WALKED, "zip": WALKED, "reversed": WALKED}
+        for stem, tree in self.trees.items():
+            walked = [node.iter for node in nodes_of(tree, ast.For, ast.comprehension)]
+            for node in nodes_of(tree, ast.Call):
+                if called_name(node) in fit:
+                    around = [called_name(other) for other in nodes_of(tree, ast.Call) if node in other.args]
+                    on_the_spot = called_name(node) != "set" and node in walked
+                    self.assertTrue(on_the_spot or any(name in fit[called_name(node)] for name in around),
+                                    (stem, node.lineno))
+
+    def test_each_name_once_at_the_top(self):
+        for stem, tree in self.trees.items():
+            names = imported_names(tree) + [node.name for node in tree.body if hasattr(node, "name")]
+            names += [node.targets[0].id for node in tree.body if isinstance(node, ast.Assign)]
+            self.assertEqual(len(names), len(set(names)), stem)
 
     def test_top_is_plain(self):
         for stem, tree in self.trees.items():
